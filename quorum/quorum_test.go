@@ -2,6 +2,9 @@ package quorum_test
 
 import (
 	"cmp"
+	"go/ast"
+	"go/parser"
+	"go/token"
 	"maps"
 	"math"
 	"slices"
@@ -479,5 +482,29 @@ func TestStays(t *testing.T) {
 		if !slices.Equal(p.Keys[:mostKeys+1], keys) || !slices.Equal(l, whole) {
 			t.Error("a list that was handed in is changed")
 		}
+	}
+}
+
+// DOC.md, Ways: what is there stands in a map, here the keys that have signed. Its values
+// are neither bools nor strings (LANGUAGE.md, rule 3).
+func TestWays(t *testing.T) {
+	file, err := parser.ParseFile(token.NewFileSet(), "quorum.go", nil, 0)
+	if err != nil {
+		t.Fatal(err)
+	}
+	found := 0
+	ast.Inspect(file, func(n ast.Node) bool {
+		m, ok := n.(*ast.MapType)
+		if !ok {
+			return true
+		}
+		found++
+		if value, ok := m.Value.(*ast.Ident); ok && (value.Name == "bool" || value.Name == "string") {
+			t.Errorf("a map has values of type %s", value.Name)
+		}
+		return true
+	})
+	if found == 0 {
+		t.Error("there is no map")
 	}
 }
