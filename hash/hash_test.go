@@ -309,6 +309,33 @@ func TestReadNone(t *testing.T) {
 	}
 }
 
+// P4.1: numbers in so many bytes are their lowest bytes, the lowest first.
+func TestLow(t *testing.T) {
+	for _, c := range []struct {
+		n, width int
+		want     []byte
+	}{
+		{0, 1, []byte{0}},
+		{258, 1, []byte{2}},
+		{258, 2, []byte{2, 1}},
+		{258, 4, []byte{2, 1, 0, 0}},
+		{0x01020304050607, 7, []byte{7, 6, 5, 4, 3, 2, 1}},
+		{0x0102030405060708, 4, []byte{8, 7, 6, 5}},
+		{1<<32 + 1, 4, []byte{1, 0, 0, 0}},
+		{-1, 4, []byte{255, 255, 255, 255}},
+		{-2, 9, []byte{254, 255, 255, 255, 255, 255, 255, 255, 255}},
+		{math.MaxInt, 10, []byte{255, 255, 255, 255, 255, 255, 255, 127, 0, 0}},
+		{math.MinInt, 8, []byte{0, 0, 0, 0, 0, 0, 0, 128}},
+		{7, 0, nil},
+		{7, -1, nil},
+		{7, math.MinInt, nil},
+	} {
+		if got := hash.Low(c.n, c.width); !bytes.Equal(got, c.want) {
+			t.Errorf("Low(%d, %d): %v, want %v", c.n, c.width, got, c.want)
+		}
+	}
+}
+
 // R4: lists that are handed in are not changed, nor is their spare room.
 func TestArgumentsStay(t *testing.T) {
 	for _, n := range []int{0, 1, 55, 56, 63, 64, 65, 200} {

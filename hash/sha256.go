@@ -51,15 +51,6 @@ func (s *digest) write(b []byte) {
 	}
 }
 
-// length writes a part's number of bytes, the lowest first.
-func (s *digest) length(n int) {
-	var b [header]byte
-	for i := range b {
-		b[i] = byte(n >> (8 * i))
-	}
-	s.write(b[:])
-}
-
 // end fills the last chunk: a bit, noughts, the number of bits that were written.
 func (s *digest) end() [32]byte {
 	n := 8 * s.n
